@@ -1,0 +1,1 @@
+"""Drumlay: rows laid on a drum that turns under a head."""
