@@ -265,7 +265,12 @@ class BadGoes(unittest.TestCase):
             else:
                 self.refused(program, goes)
 
-    def test_goes_of_other_numbers_than_the_run(self):
+    def test_goes_up_to_a_stop_that_was_not_done_any_more(self):
+        self.assertEqual(run(STRAIGHT, 3)[1], ("long",))
+        self.taken(STRAIGHT, run(STRAIGHT, 3)[3])
+        self.refused(STRAIGHT, run(STRAIGHT, 2)[3])
+
+    def test_goes_that_this_program_s_worths_do_not_lead_to(self):
         self.taken(FORK, [(0, 1, 1), (1, 3, 1)])
         self.taken(FORK, [(0, 1, 1), (1, 2, 1), (2, 4, 1)])
 
