@@ -107,6 +107,13 @@ def check_goes(program, goes):
         raise BadGoes("no way from row 0 comes to a row that is gone from")
 
 
+def check_wide_and_goes(program, wide, goes):
+    """Refuses what is no program, no number of places, or no goes of a way."""
+    check_program(program)
+    check_wide(wide)
+    check_goes(program, goes)
+
+
 def is_go(go, may_be):
     """Whether this is one of the goes that there may be, gone once or more."""
     return len(go) == 3 and all([is_number(thing) for thing in go]) and go[:2] in may_be and go[2] >= 1
@@ -137,10 +144,23 @@ def rows_found(pairs):
     return found
 
 
+def times_done(goes):
+    """How often each row that is done is done by these goes, by its number."""
+    done = {0: 1}
+    for _, to, many in goes:
+        done[to] = done.get(to, 0) + many
+    return done
+
+
 def beats(program, laying, goes):
     """The beats of the run that goes so."""
     check_program(program)
     check_laying(program, laying)
     check_goes(program, goes)
+    return beats_by(program, laying, goes)
+
+
+def beats_by(program, laying, goes):
+    """The beats of the run that goes so, where all that is handed in is right."""
     going = sum([many * cost(program, laying, begin, to) for begin, to, many in goes])
     return laying[1][0] + going + 1

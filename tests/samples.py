@@ -15,6 +15,7 @@ COUNT_DOWN = (
     ),
 )
 COUNT_DOWN_GOES = [(0, 1, 4), (1, 2, 3), (1, 5, 1), (2, 3, 3), (3, 4, 3), (4, 0, 3)]
+COUNT_DOWN_LAYING = (6, (2, 4, 0, 4, 5, 1), ((1, 3), (0, 2, 5)))
 
 STRAIGHT = ((7, -5), (("load", 0, 1), ("add", 1, 2), ("say", 3), ("stop",)))
 
@@ -23,6 +24,8 @@ FORK = ((0, 4), (("load", 0, 1), ("test", 2, 3), ("say", 4), ("stop",), ("stop",
 ENDLESS = ((), (("say", 0),))
 
 ONLY_STOP = ((), (("stop",),))
+
+WORK = {"load": 1, "store": 1, "test": 1, "add": 2, "take": 2, "say": 3, "stop": 0}
 
 
 def refusal(function, *handed):
@@ -33,6 +36,28 @@ def refusal(function, *handed):
         fields = [getattr(error, name) for name in ("row", "why", "at", "line") if hasattr(error, name)]
         return (error.__class__.__name__, *fields)
     return None
+
+
+def slow_now(row, laying, now, place):
+    """The beat of the reading and the one behind the row's work, one beat after the other."""
+    wide, _, homes = laying
+    while now % wide != place:
+        now += 1
+    read = now
+    now += 1
+    if row[0] in ("load", "add", "take", "store"):
+        left = set(homes[row[1]])
+        while left:
+            if now % wide in left:
+                left = left - {now % wide} if row[0] == "store" else set()
+            now += 1
+    return read, now + WORK[row[0]]
+
+
+def way_goes(way):
+    """The goes of a way of rows, rising."""
+    pairs = list(zip(way, way[1:]))
+    return [(*pair, pairs.count(pair)) for pair in sorted(set(pairs))]
 
 
 class Numbers:
@@ -68,3 +93,14 @@ class Numbers:
             tuple(sorted({self.below(wide) for _ in range(1 + self.below(most_homes))})) for _ in worths
         )
         return (wide, places, homes)
+
+    def way(self, program, most=200):
+        """A way from row 0 to a stop, whatever the worths; None if none is found."""
+        way = [0]
+        for _ in range(most):
+            row = program[1][way[-1]]
+            if row == ("stop",):
+                return way
+            ahead = row[2:] if row[0] in ("load", "add", "take", "store") else row[1:]
+            way.append(ahead[self.below(len(ahead))])
+        return None

@@ -43,6 +43,9 @@ INTERFACE = {
     ],
     "plain.py": ["run"],
     "layings.py": ["costs", "beats"],
+    "drums.py": ["Drum", "spun"],
+    "best.py": ["best"],
+    "papers.py": ["bound", "paper"],
 }
 
 

@@ -5,27 +5,10 @@ import unittest
 from drumlay.layings import beats, costs
 from drumlay.plain import run
 from tests.samples import (
-    COUNT_DOWN, COUNT_DOWN_GOES, ENDLESS, FORK, ONLY_STOP, STRAIGHT, Numbers, refusal,
+    COUNT_DOWN, COUNT_DOWN_GOES, COUNT_DOWN_LAYING, ENDLESS, FORK, ONLY_STOP, STRAIGHT, Numbers, refusal, slow_now,
 )
 
 STOP = ("stop",)
-WORK = {"load": 1, "store": 1, "test": 1, "add": 2, "take": 2, "say": 3, "stop": 0}
-
-
-def slow_now(row, laying, now, place):
-    """The beat of the reading and the one behind the row's work, one beat after the other."""
-    wide, _, homes = laying
-    while now % wide != place:
-        now += 1
-    read = now
-    now += 1
-    if row[0] in ("load", "add", "take", "store"):
-        left = set(homes[row[1]])
-        while left:
-            if now % wide in left:
-                left = left - {now % wide} if row[0] == "store" else set()
-            now += 1
-    return read, now + WORK[row[0]]
 
 
 def slow_costs(program, laying):
@@ -116,7 +99,7 @@ class EachWord(unittest.TestCase):
 
 
 class Costs(unittest.TestCase):
-    LAYING = (6, (2, 4, 0, 4, 5, 1), ((1, 3), (0, 2, 5)))
+    LAYING = COUNT_DOWN_LAYING
 
     def test_a_program(self):
         self.assertEqual(
@@ -173,7 +156,7 @@ class Beats(unittest.TestCase):
 
     def test_goes_of_a_way_that_no_run_goes(self):
         # Whether a run tells them does not matter, if there is such a way: straight to the stop, and very often round.
-        laying = (6, (2, 4, 0, 4, 5, 1), ((1, 3), (0, 2, 5)))
+        laying = Costs.LAYING
         self.assertEqual(beats(COUNT_DOWN, laying, [(0, 1, 1), (1, 5, 1)]), 2 + 8 + 3 + 1)
         many = 10**12
         goes = [(0, 1, many + 1), (1, 5, 1), (1, 2, many), (2, 3, many), (3, 4, many), (4, 0, many)]
