@@ -14,7 +14,7 @@ class Drum:
         check_laying(program, laying)
         self.rows = program[1]
         self.laying = laying
-        self.desk = Desk(program[0])
+        self.desk = Desk(list(program[0]))
         self.row = 0
         self.now = 0
 

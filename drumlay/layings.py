@@ -60,15 +60,20 @@ def first_beat(now, place, wide):
     return now + (place - now) % wide
 
 
+def beats_of_use(word, places, read, wide):
+    """The beats, rising, in which a row of this word that is read then uses a worth with homes at these places."""
+    comes = sorted([first_beat(read + 1, place, wide) for place in places])
+    if word == "store":
+        return comes
+    return comes[:1]
+
+
 def beat_of_use(row, read, laying):
     """The last beat in which a row that is read then uses its worth; that of the reading if it uses none."""
     wide, _, homes = laying
     if not uses_worth(row):
         return read
-    comes = [first_beat(read + 1, home, wide) for home in homes[row[1]]]
-    if row[0] == "store":
-        return max(comes)
-    return min(comes)
+    return beats_of_use(row[0], homes[row[1]], read, wide)[-1]
 
 
 def beat_behind(row, read, laying):
@@ -95,9 +100,9 @@ def costs(program, laying):
 def check_goes(program, goes):
     """Refuses goes by which no way from row 0 to a stop goes."""
     may_be = goes_that_may_be(program)
-    pairs = [go[:2] for go in goes]
     if not all([is_go(go, may_be) for go in goes]):
         raise BadGoes("a go is one that there may be, gone once or more")
+    pairs = [go[:2] for go in goes]
     if len(set(pairs)) != len(pairs):
         raise BadGoes("a go stands there twice")
     if not goes_agree(program, goes):
@@ -116,7 +121,9 @@ def check_wide_and_goes(program, wide, goes):
 
 def is_go(go, may_be):
     """Whether this is one of the goes that there may be, gone once or more."""
-    return len(go) == 3 and all([is_number(thing) for thing in go]) and go[:2] in may_be and go[2] >= 1
+    if not isinstance(go, tuple) or len(go) != 3 or not all([is_number(thing) for thing in go]):
+        return False
+    return go[:2] in may_be and go[2] >= 1
 
 
 def goes_agree(program, goes):

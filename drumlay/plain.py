@@ -1,7 +1,7 @@
 """What a program does, however it is laid."""
 
 from drumlay.errors import BadFuel
-from drumlay.programs import check_program, is_between
+from drumlay.programs import check_program, is_between, uses_worth
 
 MOST_FUEL = 5000
 DESK_LOW = -1000000000
@@ -12,22 +12,26 @@ class Desk:
     """The desk of a run: the number on it, what the worths hold, and what was said."""
 
     def __init__(self, worths):
+        # The desk changes these: a list by the worths' numbers, or a dict by the spots of their homes.
         self.number = 0
-        self.worths = list(worths)
+        self.worths = worths
         self.said = []
 
     def step(self, row):
-        """Does a row, and tells the number of the next one; None behind a stop."""
-        word = row[0]
-        if word == "stop":
+        """Does a row, and tells the next one; None behind a stop."""
+        if uses_worth(row):
+            self.use(row[0], row[1])
+            return row[2]
+        return self.onward(row)
+
+    def onward(self, row):
+        """Does a row that uses no worth, and tells the next one; None behind a stop."""
+        if row[0] == "stop":
             return None
-        if word == "test":
+        if row[0] == "test":
             return row[1] if self.number == 0 else row[2]
-        if word == "say":
-            self.said.append(self.number)
-            return row[1]
-        self.use(word, row[1])
-        return row[2]
+        self.said.append(self.number)
+        return row[1]
 
     def use(self, word, worth):
         """Does what the word of a row does with a worth."""
@@ -57,7 +61,7 @@ def run(program, fuel):
     check_program(program)
     check_fuel(fuel)
     worths, rows = program
-    desk = Desk(worths)
+    desk = Desk(list(worths))
     done = [0] * len(rows)
     gone = {}
     end = ("long",)

@@ -47,11 +47,16 @@ def nexts(row):
     return row[1:]
 
 
+def rows_ahead(row):
+    """The rows to which a row may go, rising, each once."""
+    return sorted(set(nexts(row)))
+
+
 def goes_that_may_be(program):
     """The pairs of a row and a next one, rising, each once."""
     pairs = []
     for number, row in enumerate(program[1]):
-        pairs.extend([(number, to) for to in sorted(set(nexts(row)))])
+        pairs.extend([(number, to) for to in rows_ahead(row)])
     return pairs
 
 

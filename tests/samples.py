@@ -54,6 +54,11 @@ def slow_now(row, laying, now, place):
     return read, now + WORK[row[0]]
 
 
+def rows_behind(row):
+    """The rows to which a row may go, as they stand in it."""
+    return row[2:] if row[0] in ("load", "add", "take", "store") else row[1:]
+
+
 def way_goes(way):
     """The goes of a way of rows, rising."""
     pairs = list(zip(way, way[1:]))
@@ -101,6 +106,6 @@ class Numbers:
             row = program[1][way[-1]]
             if row == ("stop",):
                 return way
-            ahead = row[2:] if row[0] in ("load", "add", "take", "store") else row[1:]
+            ahead = rows_behind(row)
             way.append(ahead[self.below(len(ahead))])
         return None

@@ -63,6 +63,11 @@ class Goes(unittest.TestCase):
         for go in ((5, 0, 1), (5, 5, 1), (0, 0, 1), (1, 1, 1), (1, 3, 1)):
             self.refused(COUNT_DOWN, [*COUNT_DOWN_GOES, go])
 
+    def test_another_count_and_what_is_no_go(self):
+        for at, (row, to, many) in enumerate(COUNT_DOWN_GOES):
+            for go in ((), (row,), (row, to), (row, to, many, many), (row, to, many, 0), None, many, "go"):
+                self.refused(COUNT_DOWN, [*COUNT_DOWN_GOES[:at], go, *COUNT_DOWN_GOES[at + 1:]])
+
     def test_goes_that_hang_together_with_nothing(self):
         self.taken(ROUNDS, [(0, 1, 1)])
         self.refused(ROUNDS, [(0, 1, 1), (4, 4, 1)])

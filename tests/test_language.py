@@ -46,6 +46,9 @@ INTERFACE = {
     "drums.py": ["Drum", "spun"],
     "best.py": ["best"],
     "papers.py": ["bound", "paper"],
+    "loops.py": ["loops", "loop_beats"],
+    "images.py": ["tracks", "image", "reeled"],
+    "notes.py": ["written", "read"],
 }
 
 

@@ -5,7 +5,8 @@ import unittest
 from drumlay.layings import beats, costs
 from drumlay.plain import run
 from tests.samples import (
-    COUNT_DOWN, COUNT_DOWN_GOES, COUNT_DOWN_LAYING, ENDLESS, FORK, ONLY_STOP, STRAIGHT, Numbers, refusal, slow_now,
+    COUNT_DOWN, COUNT_DOWN_GOES, COUNT_DOWN_LAYING, ENDLESS, FORK, ONLY_STOP, STRAIGHT, Numbers, refusal,
+    rows_behind, slow_now,
 )
 
 STOP = ("stop",)
@@ -15,8 +16,7 @@ def slow_costs(program, laying):
     told = []
     for number, row in enumerate(program[1]):
         read, now = slow_now(row, laying, 0, laying[1][number])
-        behind = row[2:] if row[0] in ("load", "add", "take", "store") else row[1:]
-        for to in sorted(set(behind)):
+        for to in sorted(set(rows_behind(row))):
             told.append((number, to, slow_now(STOP, laying, now, laying[1][to])[0] - read))
     return told
 
